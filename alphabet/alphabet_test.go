@@ -1,0 +1,41 @@
+package alphabet
+
+import (
+	"strings"
+	"testing"
+)
+
+func TestLettersOfAllBytes(t *testing.T) {
+	for n := range 256 {
+		c := byte(n)
+		is := strings.IndexByte("ACGTN", c) >= 0
+		if IsLetter(c) != is {
+			t.Errorf("IsLetter(%q) = %v", c, !is)
+		}
+		capital := byte(0)
+		if i := strings.IndexByte("ACGTNacgtn", c); i >= 0 {
+			capital = "ACGTN"[i%5]
+		}
+		if got := Capital(c); got != capital {
+			t.Errorf("Capital(%q) = %q, want %q", c, got, capital)
+		}
+	}
+}
+
+func TestComplement(t *testing.T) {
+	for i, c := range []byte("ACGTN") {
+		if got := Complement(c); got != "TGCAN"[i] {
+			t.Errorf("Complement(%q) = %q", c, got)
+		}
+	}
+}
+
+func TestNameBytesOfAllBytes(t *testing.T) {
+	const may = "ABCDEFGHIJKLMNOPQRSTUVWXYZabcdefghijklmnopqrstuvwxyz0123456789_.-"
+	for n := range 256 {
+		c := byte(n)
+		if want := strings.IndexByte(may, c) >= 0; IsNameByte(c) != want {
+			t.Errorf("IsNameByte(%q) = %v", c, !want)
+		}
+	}
+}

@@ -1,0 +1,74 @@
+// Package seqs: texts of letters: see DOC.md.
+package seqs
+
+import (
+	"bleach/alphabet"
+	"bleach/api"
+)
+
+// Reverse gives the letters of the other strand (P4).
+func Reverse(letters string) (string, api.Errno) {
+	if !areLetters(letters) {
+		return "", api.ErrLetter
+	}
+	out := make([]byte, len(letters))
+	for i := range out {
+		out[i] = alphabet.Complement(letters[len(letters)-1-i])
+	}
+	return string(out), api.OK
+}
+
+// Convert bleaches letters (P4).
+func Convert(letters string, strand int) (string, api.Errno) {
+	if !areLetters(letters) {
+		return "", api.ErrLetter
+	}
+	from, to := turned(strand)
+	if from == 0 {
+		return "", api.ErrSetting
+	}
+	out := []byte(letters)
+	for i, c := range out {
+		if c == from {
+			out[i] = to
+		}
+	}
+	return string(out), api.OK
+}
+
+// turned tells which letter the treatment turns, and into which, as seen along the reference: the strands from the bottom show a turned C as a G that became an A. Both are 0 where there is no such strand.
+func turned(strand int) (from, to byte) {
+	switch strand {
+	case api.OT, api.CTOT:
+		return 'C', 'T'
+	case api.OB, api.CTOB:
+		return 'G', 'A'
+	}
+	return 0, 0
+}
+
+func areLetters(s string) bool {
+	for i := range len(s) {
+		if !alphabet.IsLetter(s[i]) {
+			return false
+		}
+	}
+	return true
+}
+
+// byteAt gives 0 behind the end: no text may hold that byte anywhere, so a text that ends too early fails where a wrong byte would.
+func byteAt(b []byte, at int) byte {
+	if at < len(b) {
+		return b[at]
+	}
+	return 0
+}
+
+// nameEnd tells where the name that begins at first ends; a byte that would make it too long is none of it.
+func nameEnd(b []byte, first int) int {
+	at := first
+	for at-first < api.MaxName && alphabet.IsNameByte(byteAt(b, at)) {
+		at++
+	}
+	return at
+}
