@@ -10,6 +10,16 @@ func IsLetter(c byte) bool {
 	return false
 }
 
+// AreLetters holds of no letters at all, too: who needs some asks for that.
+func AreLetters(s string) bool {
+	for i := range len(s) {
+		if !IsLetter(s[i]) {
+			return false
+		}
+	}
+	return true
+}
+
 // Capital gives the letter that c stands for in a text that is read, or 0, which is no letter.
 func Capital(c byte) byte {
 	if 'a' <= c && c <= 'z' {

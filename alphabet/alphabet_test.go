@@ -22,6 +22,14 @@ func TestLettersOfAllBytes(t *testing.T) {
 	}
 }
 
+func TestAreLetters(t *testing.T) {
+	for s, want := range map[string]bool{"": true, "A": true, "ACGTN": true, "a": false, "xACGT": false, "ACxGT": false, "ACGTx": false, "ACGÅ": false} {
+		if got := AreLetters(s); got != want {
+			t.Errorf("AreLetters(%q) = %v", s, got)
+		}
+	}
+}
+
 func TestComplement(t *testing.T) {
 	for i, c := range []byte("ACGTN") {
 		if got := Complement(c); got != "TGCAN"[i] {

@@ -8,7 +8,7 @@ import (
 
 // Reverse gives the letters of the other strand (P4).
 func Reverse(letters string) (string, api.Errno) {
-	if !areLetters(letters) {
+	if !alphabet.AreLetters(letters) {
 		return "", api.ErrLetter
 	}
 	out := make([]byte, len(letters))
@@ -20,7 +20,7 @@ func Reverse(letters string) (string, api.Errno) {
 
 // Convert bleaches letters (P4).
 func Convert(letters string, strand int) (string, api.Errno) {
-	if !areLetters(letters) {
+	if !alphabet.AreLetters(letters) {
 		return "", api.ErrLetter
 	}
 	from, to := turned(strand)
@@ -45,15 +45,6 @@ func turned(strand int) (from, to byte) {
 		return 'G', 'A'
 	}
 	return 0, 0
-}
-
-func areLetters(s string) bool {
-	for i := range len(s) {
-		if !alphabet.IsLetter(s[i]) {
-			return false
-		}
-	}
-	return true
 }
 
 // byteAt gives 0 behind the end: no text may hold that byte anywhere, so a text that ends too early fails where a wrong byte would.
