@@ -1,6 +1,8 @@
 // Package alphabet: which bytes may stand in texts of letters and in names.
 package alphabet
 
+import "bleach/api"
+
 // IsLetter: small letters are none; what reads them asks Capital.
 func IsLetter(c byte) bool {
 	switch c {
@@ -53,4 +55,13 @@ func IsNameByte(c byte) bool {
 		return true
 	}
 	return c == '_' || c == '.' || c == '-'
+}
+
+func IsName(s string) bool {
+	for i := range len(s) {
+		if !IsNameByte(s[i]) {
+			return false
+		}
+	}
+	return 1 <= len(s) && len(s) <= api.MaxName
 }

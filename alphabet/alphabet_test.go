@@ -47,3 +47,12 @@ func TestNameBytesOfAllBytes(t *testing.T) {
 		}
 	}
 }
+
+func TestIsName(t *testing.T) {
+	long := strings.Repeat("n", 32)
+	for s, want := range map[string]bool{"": false, "a": true, "chr-2.A_9": true, long: true, long + "n": false, " a": false, "a b": false, "a\n": false, "ä": false} {
+		if got := IsName(s); got != want {
+			t.Errorf("IsName(%q) = %v", s, got)
+		}
+	}
+}

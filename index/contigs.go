@@ -40,11 +40,3 @@ func convert(letters string, strand int) string {
 	out, _ := seqs.Convert(letters, strand)
 	return out
 }
-
-func isStrand(strand int) bool {
-	switch strand {
-	case api.OT, api.OB, api.CTOT, api.CTOB:
-		return true
-	}
-	return false
-}

@@ -4,6 +4,7 @@ package seqs
 import (
 	"bleach/alphabet"
 	"bleach/api"
+	"bleach/strands"
 )
 
 // Reverse gives the letters of the other strand (P4).
@@ -23,7 +24,7 @@ func Convert(letters string, strand int) (string, api.Errno) {
 	if !alphabet.AreLetters(letters) {
 		return "", api.ErrLetter
 	}
-	from, to := turned(strand)
+	from, to := strands.Turned(strand)
 	if from == 0 {
 		return "", api.ErrSetting
 	}
@@ -34,17 +35,6 @@ func Convert(letters string, strand int) (string, api.Errno) {
 		}
 	}
 	return string(out), api.OK
-}
-
-// turned tells which letter the treatment turns, and into which, as seen along the reference: the strands from the bottom show a turned C as a G that became an A. Both are 0 where there is no such strand.
-func turned(strand int) (from, to byte) {
-	switch strand {
-	case api.OT, api.CTOT:
-		return 'C', 'T'
-	case api.OB, api.CTOB:
-		return 'G', 'A'
-	}
-	return 0, 0
 }
 
 // byteAt gives 0 behind the end: no text may hold that byte anywhere, so a text that ends too early fails where a wrong byte would.
